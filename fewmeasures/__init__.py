@@ -1,0 +1,1 @@
+"""The best by several measures: by some of them, within bounds, together."""
