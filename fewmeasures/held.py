@@ -20,3 +20,9 @@ class HeldList:
         self.names.append(name)
         self.rows.append(row)
         self.gains.append([value if way == "up" else -value for value, way in zip(row, self.ways)])
+
+    def every_measure(self):
+        return list(range(len(self.measures)))
+
+    def every_item(self):
+        return list(range(len(self.names)))

@@ -1,22 +1,21 @@
 """Calls on an object that holds a list, or none, and what they answer."""
 
-from fewmeasures.beating import least_sets, sets_of, unbeaten, winning_sets
 from fewmeasures.faults import Fault
-from fewmeasures.forms import one_form
 from fewmeasures.reading import read_list
+from fewmeasures.tellings import ask, bounds, counted, cover, cube, groups, least, shown, sub
 
 LOAD = 0
 SHOWN = 1
 SUB = 2
 CUBE = 3
 LEAST = 4
-# How many whole numbers each call has, and how many rows behind them. Calls that are not
-# answered yet stand here too, so that what comes behind one of them is found.
+BOUNDS = 5
+GROUPS = 6
+COVER = 7
+# How many whole numbers each call has, and how many rows behind them.
 NUMBERS = (0, 0, 0, 0, 1, 0, 0, 1, 0)
 ROWS = (1, 0, 1, 0, 0, 2, 1, 0, 1)
 NO_LIST = -1
-NO_ITEM = -2
-NO_MEASURES = -3
 
 
 class CallReader:
@@ -58,61 +57,26 @@ class Holder:
         return [1, len(self.held.measures), len(self.held.names)]
 
     def answer(self, call, arguments):
-        """The numbers that the call answers; none for a call that is not there yet."""
+        """The numbers that the call answers."""
         if call == LOAD:
             return self.load(arguments[0])
         if self.held is None:
             return [NO_LIST]
         if call == SHOWN:
-            return counted(one_form(self.held))
+            return shown(self.held)
         if call == SUB:
             return sub(self.held, arguments[0])
         if call == CUBE:
             return cube(self.held)
         if call == LEAST:
             return least(self.held, arguments[0])
-        return []
-
-
-def counted(numbers):
-    """How many numbers, and they."""
-    return [len(numbers)] + numbers
-
-
-def are_measures(told, count):
-    """Whether the numbers told are a set of measures: not none, each of them there, none twice."""
-    if any([measure < 0 or measure >= count for measure in told]):
-        return False
-    return len(told) > 0 and len(set(told)) == len(told)
-
-
-def sub(held, measures):
-    if not are_measures(measures, len(held.measures)):
-        return [NO_MEASURES]
-    everyone = list(range(len(held.names)))
-    return counted(unbeaten(held.gains, everyone, measures))
-
-
-def cube(held):
-    sets = sets_of(len(held.measures))
-    winning = [winning_sets(held, item) for item in range(len(held.names))]
-    stored = [least_sets(won) for won in winning]
-    told = [len(sets), sum([len(won) for won in winning]), sum([len(kept) for kept in stored])]
-    for chosen in sets:
-        told.extend(counted(chosen))
-        told.extend(counted([item for item, kept in enumerate(stored) if chosen in kept]))
-    return told
-
-
-def least(held, item):
-    if item < 0 or item >= len(held.names):
-        return [NO_ITEM]
-    winning = winning_sets(held, item)
-    smallest = least_sets(winning)
-    told = [len(smallest)]
-    for chosen in smallest:
-        told.extend(counted(chosen))
-    return told + [len(winning)]
+        if call == BOUNDS:
+            return bounds(self.held, arguments[0], arguments[1])
+        if call == GROUPS:
+            return groups(self.held, arguments[0])
+        if call == COVER:
+            return cover(self.held, arguments[0])
+        return ask(self.held, arguments[0])
 
 
 def answers(calls):

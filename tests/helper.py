@@ -72,6 +72,10 @@ def last(*calls):
     return told(*calls)[-1]
 
 
+def counted(numbers):
+    return [len(numbers), *numbers]
+
+
 def text_of(ways, rows):
     """A list with measures m0, m1, .. and items i0, i1, .."""
     measures = ", ".join(f"m{number} {way}" for number, way in enumerate(ways))
@@ -99,6 +103,16 @@ def unbeaten(ways, rows, among, chosen):
     return [item for item in among if not is_beaten(ways, rows, item, among, chosen)]
 
 
+def best_of_all(ways, rows, among):
+    """Those of these items that none of them beats by all measures."""
+    return unbeaten(ways, rows, among, range(len(ways)))
+
+
+def beaten_by(ways, rows, some):
+    """The set of the items that one of these beats by all measures."""
+    return {item for item in range(len(rows)) if is_beaten(ways, rows, item, some, range(len(ways)))}
+
+
 def mixed_numbers(start):
     """Numbers that look mixed and are the same each time."""
     number = start
@@ -118,10 +132,14 @@ def small_lists():
         how_many, most = next(numbers) % 17, next(numbers) % 6 + 2
         rows = [tuple(next(numbers) % most - 2 for measure in range(4)) for item in range(how_many)]
         yield ("up", "down", "down", "up"), rows
+    yield SPREAD_WAYS, SPREAD_ROWS
     yield ("up", "up", "up"), TWIN_ROWS
     yield ("up", "up", "up", "up"), CROSSED_ROWS
 
 
+# Item 0 beats 3 and 5, 1 beats 3 and 4, 2 beats 5 and 6: 1 and 2 are the best two, and 0 is the first taken.
+SPREAD_WAYS = ("up", "up")
+SPREAD_ROWS = [(5, 5), (2, 9), (9, 2), (1, 4), (1, 8), (4, 1), (8, 1)]
 # Item 0 is unbeaten by measure 0 and by all three, but by no two: 1 and 2 are the same by
 # measure 0 and each better by one other measure, 3 is better by the last two.
 TWIN_ROWS = [(5, 1, 1), (5, 2, 0), (5, 0, 2), (0, 3, 3)]

@@ -3,9 +3,12 @@
 import unittest
 
 from fewmeasures.lists import answers
-from helper import FAR, WORKED, ask, bounds, bytes_of, cover, cube, groups, least, load, shown, sub, told
+from helper import FAR, WORKED, ask, bounds, bytes_of, cover, cube, groups, least, load, shown, sub, text_of, told
 
 WORKED_BYTES = bytes_of(WORKED)
+# Every call but load, some of them so that they are refused.
+EVERY = (shown(), sub(0), sub(), cube(), least(0), least(-1), bounds([0, 4], [11, 9]), bounds([], []),
+         bounds([1], [2, 3, 4]), groups(0, 0, 0, 1, 1), groups(), groups(10), cover(1), cover(-FAR), ask(0, 1), ask())
 
 
 class Untouched(list):
@@ -21,7 +24,8 @@ class Untouched(list):
 class WorkedTest(unittest.TestCase):
 
     def test_number_by_number(self):
-        calls = [0, len(WORKED_BYTES), *WORKED_BYTES, 2, 1, 0, 2, 1, 1, 2, 2, 1, 0, 3, 4, 0, 4, 1, 4, 3]
+        calls = [0, len(WORKED_BYTES), *WORKED_BYTES, 2, 1, 0, 2, 1, 1, 2, 2, 1, 0, 3, 4, 0, 4, 1, 4, 3,
+                 8, 2, 0, 1, 8, 1, 0, 5, 2, 0, 4, 2, 11, 9, 6, 5, 0, 0, 0, 1, 1, 7, 1, 7, 2]
         self.assertEqual(answers(calls), [
             3, 1, 2, 5,
             3, 2, 1, 4,
@@ -31,6 +35,12 @@ class WorkedTest(unittest.TestCase):
             5, 1, 2, 0, 1, 1,
             4, 1, 1, 0, 2,
             2, 0, 0,
+            6, 4, 4, 0, 1, 2, 4,
+            4, 2, 2, 1, 4,
+            3, 1, 1, 0,
+            15, 2, 0, 3, 0, 1, 2, 1, 2, 3, 4, 4, 0, 1, 2, 4,
+            4, 1, 0, 1, 0,
+            6, 1, 0, 1, 1, 0, 1,
         ])
 
     def test_shown_stands_behind_its_length(self):
@@ -41,6 +51,9 @@ class WorkedTest(unittest.TestCase):
                          [1, -1, 1, -1, 1, -1, 3, 0, 3, 0, 1, -1, 3, 0, 2, 0, 1, -1])
         self.assertEqual(answers([*load("measures a up;"), 2, 0, 4, 0, 2, 2, 0, 0, 3]),
                          [3, 1, 1, 0, 1, -3, 1, -2, 1, -3, 6, 1, 0, 0, 1, 0, 0])
+        calls = [5, 0, 0, 5, 1, 3, 0, 6, 1, 0, 7, 0, 8, 0, 5, 0, 1, 3, 6, 0, 7, -1]
+        self.assertEqual(answers([*load("measures a up;"), *calls]),
+                         [3, 1, 1, 0, 1, -4, 1, -4, 1, -4, 1, -5, 1, -3, 1, -4, 2, 0, 0, 1, -5])
 
 
 class CallsTest(unittest.TestCase):
@@ -67,16 +80,50 @@ class CallsTest(unittest.TestCase):
                          [[1, 2, 5], [0, 3, 29], [2, 1, 4], [1, 1, 0, 2]])
 
     def test_what_is_asked_leaves_the_list_as_it_was(self):
-        asked = [shown(), sub(1, 0), sub(1), cube(), least(2), sub(), least(-1), sub(5), least(9)]
+        asked = [shown(), sub(1, 0), cube(), least(2), bounds([0, 4], [11, 9]), groups(0, 0, 0, 1, 1), cover(2), ask(0)]
+        refused = [sub(), least(-1), sub(5), least(9), bounds([0], [1]), groups(10, 0, 0, 0, 0), groups(), cover(5),
+                   cover(0), ask(), ask(0, 0)]
         once = told(load(WORKED), *asked)[1:]
-        self.assertEqual(told(load(WORKED), *asked, *asked, *asked)[1:], once * 3)
+        for calls in asked, refused:
+            self.assertEqual(told(load(WORKED), *asked, *calls, *asked)[-len(asked):], once)
+        self.assertEqual(told(load(WORKED), *refused)[1:],
+                         [[-3], [-2], [-3], [-2], [-4], [-4], [-4], [-5], [-5], [-3], [-3]])
 
-    def test_calls_behind_those_asked_later_are_found(self):
-        later = [bounds([0, 4], [11, 9]), bounds([], []), bounds([1], [2, 3, 4]), groups(0, 0, 0, 1, 1), groups(),
-                 cover(1), cover(-FAR), ask(0, 1), ask()]
-        for call in later:
+    def test_calls_behind_others_are_found(self):
+        for call in EVERY:
             answered = told(load(WORKED), call, sub(0), call, least(1))
             self.assertEqual([answered[place] for place in (0, 2, 4)], [[1, 2, 5], [2, 1, 4], [1, 1, 0, 2]])
+
+    def test_forty_calls_with_several_loads(self):
+        second = "measures a up, b up, c down ; item x : 1, 2, 3 ; item y : 1, 3, 3 ; item z : 0, 0, 0 ;"
+        empty = "measures a down ;"
+        on_worked = [
+            (bounds([0, 4], [11, 9]), [1, 1, 0]), (cover(2), [1, 0, 1, 1, 0, 1]), (ask(0), [2, 2, 1, 4]),
+            (groups(0, 0, 0, 1, 1), [2, 0, 3, 0, 1, 2, 1, 2, 3, 4, 4, 0, 1, 2, 4]), (least(3), [0, 0]), (sub(2), [-3])]
+        on_second = [
+            (bounds([0, 0], [9, 9]), [-4]), (bounds([0, 0, 3], [9, 9, 3]), [2, 1, 1]), (cover(1), [1, 1, 1, 1]),
+            (groups(0, 9, 0), [2, 0, 2, 0, 2, 9, 1, 1, 2, 1, 2]), (ask(0, 1), [2, 1, 1]), (sub(2), [1, 2]),
+            (groups(0, 0, 0, 1, 1), [-4]), (cover(4), [-5])]
+        on_empty = [
+            (bounds([0], [9]), [0, 0]), (cover(1), [-5]), (groups(), [0, 0]), (ask(0), [0, 0]), (least(0), [-2])]
+        twice = (load("measures a up, a down ;"), [0, 5, 15])
+        too_long = (load([35] * 4097), [0, 1, 4096])
+        line = [
+            (ask(0), [-1]), twice, (cover(1), [-1]),
+            (load(WORKED), [1, 2, 5]), *on_worked, twice, *on_worked,
+            (load(second), [1, 3, 3]), *on_second[:4], too_long, *on_second[4:],
+            (load(empty), [1, 1, 0]), *on_empty, (load("?"), [0, 2, 0]), (shown(), [18, *b"measures a down ;\n"]),
+            (load(WORKED), [1, 2, 5]), (groups(), [-4]), (cover(1), [1, 0, 1, 0]), (ask(1), [1, 1, 2]),
+            (bounds([8, 3], [8, 3]), [2, 2, 1, 4])]
+        self.assertEqual(len(line), 40)
+        self.assertEqual(told(*[call for call, answer in line]), [answer for call, answer in line])
+
+    def test_forty_calls_of_the_longest_work(self):
+        rows = [[number % 4, number // 4, number * 5 % 16, number * 3 % 7] for number in range(16)]
+        text = text_of(["up", "down", "up", "down"], rows)
+        for call in cover(4), cube(), ask(3, 2, 1, 0), bounds([-FAR] * 4, [FAR] * 4), groups(*[9, 0] * 8), shown():
+            answered = told(load(text), *[call] * 39)
+            self.assertEqual(answered[1:], [told(load(text), call)[1]] * 39)
 
     def test_numbers_in_a_row_are_no_calls(self):
         self.assertEqual(told(load(WORKED), sub(3, 0, 1, 1), sub(0)), [[1, 2, 5], [-3], [2, 1, 4]])
@@ -84,14 +131,11 @@ class CallsTest(unittest.TestCase):
 
 class NoListTest(unittest.TestCase):
 
-    EVERY = (shown(), sub(0), sub(), cube(), least(0), least(-1), bounds([], []), bounds([1], [2]), groups(), groups(1),
-             cover(1), cover(0), ask(0), ask())
-
     def test_every_call_but_load(self):
-        self.assertEqual(told(*self.EVERY), [[-1]] * len(self.EVERY))
+        self.assertEqual(told(*EVERY), [[-1]] * len(EVERY))
 
     def test_after_a_fault_too(self):
-        for call in self.EVERY:
+        for call in EVERY:
             self.assertEqual(told(load("measures"), call), [[0, 3, 8], [-1]])
 
     def test_until_one_is_loaded(self):
@@ -100,7 +144,8 @@ class NoListTest(unittest.TestCase):
 
 class LeftAloneTest(unittest.TestCase):
 
-    CALLS = load(WORKED) + shown() + sub(1, 0) + sub() + cube() + least(1) + least(9) + load("?") + load([35] * 4097)
+    CALLS = [number for call in (load(WORKED), *EVERY, least(9), load("?"), load([35] * 4097), *EVERY)
+             for number in call]
 
     def test_what_is_handed_in_is_the_same(self):
         calls = list(self.CALLS)
@@ -119,7 +164,7 @@ class LeftAloneTest(unittest.TestCase):
 
     def test_nothing_is_kept(self):
         self.assertEqual(told(load(WORKED), sub(0)), [[1, 2, 5], [2, 1, 4]])
-        self.assertEqual(told(sub(0), shown(), cube(), least(0)), [[-1]] * 4)
+        self.assertEqual(told(*EVERY), [[-1]] * len(EVERY))
 
     def test_changing_what_was_given_back_changes_nothing_later(self):
         first = answers(list(self.CALLS))

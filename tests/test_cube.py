@@ -2,12 +2,8 @@
 
 import unittest
 
-from helper import (CROSSED_ROWS, FAR, TWIN_ROWS, WORKED, cube, last, least, load, sets_in_order, small_lists, sub,
-                    text_of, told, unbeaten)
-
-
-def counted(numbers):
-    return [len(numbers), *numbers]
+from helper import (CROSSED_ROWS, FAR, TWIN_ROWS, WORKED, counted, cube, last, least, load, sets_in_order, small_lists,
+                    sub, text_of, told, unbeaten)
 
 
 def winning(ways, rows):

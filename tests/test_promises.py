@@ -1,8 +1,10 @@
-"""The promises 2 and 3, and 1 as far as it says what cube tells as stored; from the program's answers alone."""
+"""The five promises, from the program's answers alone."""
 
 import unittest
+from itertools import combinations
 
-from helper import cube, least, load, sets_in_order, small_lists, sub, text_of, told
+from helper import (SPREAD_ROWS, SPREAD_WAYS, ask, beaten_by, cover, cube, groups, least, load, mixed_numbers,
+                    sets_in_order, small_lists, sub, text_of, told)
 
 
 def sets_told(answer):
@@ -27,15 +29,32 @@ def stored_told(answer):
     return stored
 
 
+def best_told(answer):
+    """The items that an answer of groups tells as a group's best, and those it tells as unbeaten among them."""
+    groups_best = []
+    at = 1
+    for turn in range(answer[0]):
+        groups_best += answer[at + 2:at + 2 + answer[at + 1]]
+        at += 2 + answer[at + 1]
+    return groups_best, answer[at + 1:at + 1 + answer[at]]
+
+
+def enough(some, best, k):
+    """Whether some are at least 1 less (1 less a k-th) to the k-th power of the best, in whole numbers."""
+    return some * k ** k >= best * (k ** k - (k - 1) ** k)
+
+
 class Answered:
-    """What sub, least and cube answer for one list."""
+    """What sub, ask, least and cube answer for one list."""
 
     def __init__(self, ways, rows):
         sets = sets_in_order(len(ways))
         items = range(len(rows))
-        answered = told(load(text_of(ways, rows)), *[sub(*chosen) for chosen in sets],
-                        *[least(item) for item in items], cube())
+        text = load(text_of(ways, rows))
+        answered = told(text, *[sub(*chosen) for chosen in sets], *[least(item) for item in items], cube())
+        asked = told(text, *[ask(*chosen) for chosen in sets])
         self.best = {tuple(chosen): set(answer[1:]) for chosen, answer in zip(sets, answered[1:])}
+        self.asked = {tuple(chosen): answer for chosen, answer in zip(sets, asked[1:])}
         self.least = [sets_told(answer) for answer in answered[1 + len(sets):-1]]
         self.stored = stored_told(answered[-1])
         self.rows = rows
@@ -63,6 +82,18 @@ class PromisesTest(unittest.TestCase):
                 unbeaten = {item for item in within
                             if not any(answered.beats(other, item, chosen) for other in within)}
                 self.assertEqual(unbeaten, best)
+
+    def test_1_what_is_asked_is_what_is_unbeaten(self):
+        for answered in self.lists:
+            for chosen, best in answered.best.items():
+                self.assertEqual(answered.asked[chosen][1:], [len(best), *sorted(best)])
+
+    def test_1_the_candidates_are_those_stored_within(self):
+        for answered in self.lists:
+            for chosen, answer in answered.asked.items():
+                within = {item for other, items in answered.stored.items() if set(other) <= set(chosen)
+                          for item in items}
+                self.assertEqual(answer[0], len(within))
 
     def test_1_stored_is_what_least_tells(self):
         for answered in self.lists:
@@ -107,6 +138,58 @@ class PromisesTest(unittest.TestCase):
             for more, still in answered.best.items():
                 if set(fewer) <= set(more):
                     self.assertLessEqual(best, still)
+
+    def test_4_who_is_unbeaten_among_all_is_among_the_groups_best(self):
+        numbers = mixed_numbers(5)
+        for answered in self.lists:
+            everyone = range(len(answered.rows))
+            for most in 1, 2, 4, 10:
+                group_of = [next(numbers) % most for item in everyone]
+                answer = told(load(text_of(answered.ways, answered.rows)), groups(*group_of))[1]
+                groups_best, unbeaten = best_told(answer)
+                best = answered.best[tuple(range(len(answered.ways)))]
+                self.assertLessEqual(best, set(groups_best))
+                self.assertEqual(unbeaten, sorted(best))
+
+    def test_4_a_group_of_its_own_for_each(self):
+        rows = [[number * 3 % 10, number * 7 % 10] for number in range(10)]
+        answer = told(load(text_of(["up", "up"], rows)), groups(*range(10)), sub(0, 1))
+        groups_best, unbeaten = best_told(answer[1])
+        self.assertEqual(groups_best, list(range(10)))
+        self.assertEqual([len(unbeaten), *unbeaten], answer[2])
+
+    def test_5_the_best_are_the_best_and_step_by_step_is_nearly_as_good(self):
+        fewer = 0
+        for ways, rows in [(answered.ways, answered.rows) for answered in self.lists]:
+            sizes = range(1, min(4, len(rows)) + 1)
+            answer = told(load(text_of(ways, rows)), *[cover(k) for k in sizes])
+            for k, (best, *rest) in zip(sizes, answer[1:]):
+                chosen, step, taken = rest[:k], rest[k], rest[k + 1:]
+                self.check_cover(ways, rows, best, chosen)
+                self.check_cover(ways, rows, step, taken)
+                self.assertTrue(enough(step, best, k))
+                self.assertLessEqual(step, best)
+                self.assertEqual((len(chosen), len(taken)), (k, k))
+                fewer += step < best
+        self.assertGreater(fewer, 0)
+
+    def check_cover(self, ways, rows, count, some):
+        self.assertEqual(len(set(some)), len(some))
+        self.assertEqual(len(beaten_by(ways, rows, some)), count)
+
+    def test_5_no_others_beat_more(self):
+        for ways, rows in [(answered.ways, answered.rows) for answered in self.lists[::30]]:
+            alone = [beaten_by(ways, rows, [item]) for item in range(len(rows))]
+            for k in range(1, min(4, len(rows)) + 1):
+                best = told(load(text_of(ways, rows)), cover(k))[1][0]
+                for some in combinations(alone, k):
+                    self.assertLessEqual(len(set().union(*some)), best)
+
+    def test_5_no_less_than_told_where_it_is_least(self):
+        answer = told(load(text_of(SPREAD_WAYS, SPREAD_ROWS)), cover(2))[1]
+        self.assertEqual((answer[0], answer[3]), (4, 3))
+        self.assertTrue(enough(3, 4, 2))
+        self.assertFalse(enough(2, 4, 2))
 
 
 if __name__ == "__main__":
